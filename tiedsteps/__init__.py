@@ -1,0 +1,1 @@
+"""Tiedsteps: one moment, any order of its steps."""
