@@ -2,6 +2,9 @@
 
 import unittest
 
+from tiedsteps.processes import Process
+from tiedsteps.programs import Program
+
 # Each error with the name of what it is made of.
 MADE_OF = {
     "NoTerm": "value", "NoDeed": "value", "NoProcess": "part", "NoProgram": "part",
@@ -41,6 +44,16 @@ class Checks(unittest.TestCase):
         self.assertEqual(call(), told)
 
 
+def program_of(*rows, inputs=("a",)):
+    """A program of rows "NAME WAITS: DEED; DEED ..", WAITS one letter for each variable."""
+    told = []
+    for row in rows:
+        head, deeds = row.split(": ")
+        name, waits = head.split(" ")
+        told.append(Process(name, list(waits), deeds.split("; ")))
+    return Program(told, list(inputs))
+
+
 class EqualToAll:
     """Says of every object that it is equal to it."""
 
@@ -48,3 +61,10 @@ class EqualToAll:
         return True
 
     __hash__ = None
+
+
+# What is no number from 1, and so no bound of a search.
+NO_BOUNDS = [0, -1, -2000, True, False, None, "5", "", 1.0, [1], (1,), {}, {1: 1}, EqualToAll()]
+# What is no name of a process and no possible move, though some of it is near one.
+NO_NAMES = ["x", "", "P", "p ", "pp", "turns", 0, 1, -1, True, False, None, b"p", [], ["p"], (), ("p",), {}, {"p": 1},
+            {"p"}, object(), EqualToAll()]

@@ -6,6 +6,9 @@ import inspect
 import unittest
 
 from checks import MADE_OF
+from tiedsteps import verdicts
+from tiedsteps.processes import Process
+from tiedsteps.programs import Program
 
 # For each file its classes, for each of these what is defined in it with its parameters.
 INTERFACE = {
@@ -38,7 +41,60 @@ INTERFACE = {
             "replaced": "(self, process)", "places": "(self)", "delayed": "(self, places)",
         },
     },
+    "benches": {
+        "Bench": {
+            "__init__": "(self, program, values, changed)", "__call__": "(self, move)", "__iadd__": None,
+            "state": "(self)", "moves": "(self)", "made": "(self)", "listed": "(self)", "__iter__": "(self)",
+            "__len__": "(self)", "__contains__": None, "__getitem__": None, "ended": "property",
+            "back": "(self, many=1)", "twin": "(self)", "__eq__": None, "trial": "(self)",
+            "trying": "(self, visitor, *, kept=False)",
+        },
+    },
+    "verdicts": {
+        "Verdict": {
+            "__init__": "(self, program, *, most=2000)", "sole": "property", "longest": "property", "word": "property",
+            "faults": "(self)", "__eq__": None,
+        },
+    },
 }
+# For each file its functions with their parameters.
+FUNCTIONS = {
+    "patterns": {
+        "pattern_of": "(program, values)", "values_of": "(program, pattern)", "patterns": "(program)",
+        "pattern_count": "(many, constants)", "exchanged": "(program, values, pairs)",
+    },
+    "rules": {
+        "start_state": "(program, values, changed)", "moves": "(program, state)", "step": "(program, state, move)",
+        "is_end": "(program, state)", "values_in": "(program, state)",
+    },
+    "benches": {
+        "played": "(program, state, run)", "is_run": "(program, state, run)", "tried": "(bench, run)",
+        "by_order": "(program, state, order, *, most=200)",
+    },
+    "searches": {
+        "all_states": "(program, state, *, most=2000)", "ends": "(program, state, *, most=2000)",
+        "to_end": "(program, state, *, most=2000)", "ring": "(program, state, *, most=2000)",
+        "longest": "(program, state, *, most=2000)", "parting": "(program, state, *, most=2000)",
+        "way_to": "(program, state, goal, *, most=2000)",
+    },
+    "wakings": {
+        "wakes": "(program, one, other)", "wakings": "(program)", "circle": "(program)", "weights": "(program)",
+        "falling": "(program, state)", "levels": "(program)",
+    },
+    "commuting": {
+        "commute": "(program, one, other)", "clash": "(program, one, other)", "clashes": "(program)",
+        "all_commute": "(program)", "apart": "(program, one, other)", "shift": "(program, state, run, at)",
+    },
+    "verdicts": {
+        "starts": "(program)", "faults": "(program, *, most=2000)", "is_sole": "(program, *, most=2000)",
+        "fault_of": "(program, fault, *, most=2000)", "end_of": "(program, values, changed, *, most=2000)",
+    },
+    "notes": {
+        "write_program": "(program)", "write_start": "(program, start)", "write_run": "(run)",
+        "read_program": "(text)", "read_start": "(program, text)", "read_run": "(text)",
+    },
+}
+GENERATORS = {("patterns", "patterns"), ("verdicts", "starts")}
 STATIC = {("Term", "choice"), ("Deed", "of")}
 
 
@@ -57,6 +113,23 @@ class InterfaceTest(unittest.TestCase):
                 for method, told in methods.items():
                     with self.subTest(held=held, method=method):
                         self.check(held, method, vars(getattr(module, held))[method], told)
+
+    def test_each_function_is_defined_in_its_file(self):
+        for name, functions in FUNCTIONS.items():
+            module = importlib.import_module(f"tiedsteps.{name}")
+            nodes = ast.parse(inspect.getsource(module)).body
+            defined = [node.name for node in nodes if isinstance(node, ast.FunctionDef)]
+            for held, told in functions.items():
+                with self.subTest(name=name, held=held):
+                    self.assertIn(held, defined)
+                    called = getattr(module, held)
+                    self.assertEqual(str(inspect.signature(called)), told)
+                    self.assertEqual(inspect.isgeneratorfunction(called), (name, held) in GENERATORS)
+
+    def test_attributes_are_set_when_an_object_is_created(self):
+        program = Program([Process("p", ["a"], ["b := a"])], ["a"])
+        self.assertEqual(verdicts.Verdict(program).starts, 2)
+        self.assertIn("starts", vars(verdicts.Verdict(program)))
 
     def check(self, held, method, defined, told):
         self.assertEqual(isinstance(defined, staticmethod), (held, method) in STATIC)

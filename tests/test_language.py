@@ -25,6 +25,8 @@ BARRED = (
     ast.AsyncFunctionDef, ast.AsyncFor, ast.AsyncWith, ast.Await, ast.Global, ast.Import, ast.AnnAssign, ast.Div,
     ast.MatMult, ast.GeneratorExp, ast.TryStar,
 )
+# These may change what they are called for.
+CHANGING = {"__init__", "__enter__", "__exit__", "__call__", "__iadd__"}
 PURE = ("__eq__", "__repr__", "__str__", "__len__")
 
 
@@ -40,6 +42,10 @@ def nodes(kind):
         for node in ast.walk(tree)
         if isinstance(node, kind)
     ]
+
+
+def is_property(node):
+    return any(isinstance(held, ast.Name) and held.id == "property" for held in node.decorator_list)
 
 
 def top_names(tree):
@@ -142,7 +148,64 @@ class NodesTest(unittest.TestCase):
     def test_what_is_caught(self):
         own = {node.name for _, node in nodes(ast.ClassDef)}
         for where, node in nodes(ast.ExceptHandler):
-            self.assertIn(node.type.id, own | {"KeyError"}, where)
+            for held in node.type.elts if isinstance(node.type, ast.Tuple) else [node.type]:
+                self.assertIn(held.id, own | {"KeyError"}, where)
+
+    def test_operators_and_properties_assign_nothing_in_place(self):
+        for where, node in nodes(ast.FunctionDef):
+            if node.name in SPECIAL - CHANGING or is_property(node):
+                held = [part for part in ast.walk(node) if isinstance(part, (ast.AugAssign, ast.Delete, ast.NamedExpr))]
+                stored = [part for part in ast.walk(node) if isinstance(part, (ast.Attribute, ast.Subscript))
+                          and isinstance(part.ctx, ast.Store)]
+                self.assertEqual(held + stored, [], where)
+
+    def test_rows_of_exit(self):
+        for where, node in nodes(ast.FunctionDef):
+            if node.name == "__exit__":
+                for part in ast.walk(ast.Module(node.body, [])):
+                    self.assertNotIsInstance(part, (ast.Call, ast.Subscript, ast.For, ast.While, ast.Raise), where)
+
+
+class NamesTest(unittest.TestCase):
+    def test_no_name_of_a_class_or_an_import_is_used_within(self):
+        for name, tree in trees().items():
+            taken = {node.name for node in tree.body if isinstance(node, ast.ClassDef)}
+            taken |= {alias.name for node in tree.body if isinstance(node, ast.ImportFrom) for alias in node.names}
+            for node in ast.walk(tree):
+                used = node.arg if isinstance(node, ast.arg) else None
+                if isinstance(node, ast.Name) and isinstance(node.ctx, ast.Store):
+                    used = node.id
+                self.assertNotIn(used, taken, f"{name}:{getattr(node, 'lineno', 0)}")
+
+    def test_no_name_is_a_property_and_something_else(self):
+        properties = [node.name for _, node in nodes(ast.FunctionDef) if is_property(node)]
+        methods = {node.name for _, held in nodes(ast.ClassDef) for node in held.body
+                   if isinstance(node, ast.FunctionDef) and not is_property(node)}
+        attributes = {node.attr for _, node in nodes(ast.Attribute) if isinstance(node.ctx, ast.Store)}
+        for name in properties:
+            self.assertNotIn(name, methods | attributes)
+
+    def test_no_name_is_a_method_and_an_attribute_of_one_class(self):
+        for where, held in nodes(ast.ClassDef):
+            methods = {node.name for node in held.body if isinstance(node, ast.FunctionDef)}
+            for node in ast.walk(held):
+                if isinstance(node, ast.Attribute) and isinstance(node.ctx, ast.Store):
+                    self.assertNotIn(node.attr, methods, where)
+
+    def test_generators_are_iterated_at_once_and_have_names_of_their_own(self):
+        functions = [node for _, node in nodes(ast.FunctionDef)]
+        generators = {node.name for node in functions
+                      if any(isinstance(part, (ast.Yield, ast.YieldFrom)) for part in ast.walk(node))}
+        self.assertEqual(generators, {"patterns", "starts"})
+        for name in generators:
+            self.assertEqual([node.name for node in functions].count(name), 1)
+        for name, tree in trees().items():
+            loops = [node.iter for node in ast.walk(tree) if isinstance(node, (ast.For, ast.comprehension))]
+            for node in ast.walk(tree):
+                if isinstance(node, ast.Name) and node.id in generators:
+                    held = [loop for loop in loops if isinstance(loop, ast.Call) and loop.func is node]
+                    self.assertEqual(len(held), 1, f"{name}:{node.lineno}")
+
 
 
 if __name__ == "__main__":

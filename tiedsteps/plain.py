@@ -31,6 +31,11 @@ def is_short_row(value, most):
     return is_row(value) and 1 <= len(value) <= most
 
 
+def are_numbers(value, many):
+    """Whether a value is a list or tuple of so many numbers."""
+    return is_row(value) and len(value) == many and all([is_number(item) for item in value])
+
+
 def are_unlike(words):
     """Whether no word stands twice in a list."""
     return len(set(words)) == len(words)

@@ -175,7 +175,7 @@ class Term:
         for name in self._variables:
             if not is_number(values.get(name)):
                 raise NoName(name)
-        return _value_of(self._tree, values)
+        return self.worth(values)
 
     @property
     def depth(self):
@@ -200,6 +200,10 @@ class Term:
         if not isinstance(self._tree, tuple):
             return []
         return [Term(_text_of(part)) for part in self._tree]
+
+    def worth(self, values):
+        """Its value, where a dict is known to have a number for each of its variables."""
+        return _value_of(self._tree, values)
 
     def put(self, terms):
         """The term with other terms in the place of some variables, all at once."""
