@@ -100,6 +100,15 @@ def played(program, state, run):
     return state
 
 
+class Shape:
+    """As much of a program as its starts need."""
+
+    def __init__(self, variables, inputs, constants):
+        self.variables = lambda: variables
+        self.inputs = lambda: inputs
+        self.constants = lambda: constants
+
+
 def starts(program):
     """All starts, with the values told from 0 on in every way, each pattern once."""
     from itertools import combinations, product
@@ -116,6 +125,69 @@ def starts(program):
     rank = {value: place for place, value in enumerate(constants + fresh)}
     told.sort(key=lambda values: [rank[value] for value in values])
     return [(values, changed) for values in told for changed in changes]
+
+
+def has_ring(program, state):
+    return longest(program, state) is None
+
+
+def has_form(program, state):
+    """Whether any value is a tuple of the form of a state."""
+    if state.__class__ is not tuple or [part.__class__ for part in state] != [tuple, tuple, tuple]:
+        return False
+    values, awake, later = state
+    if len(values) != len(program.variables()) or any(value.__class__ is not int for value in values):
+        return False
+    if any(pair.__class__ is not tuple or len(pair) != 2 for pair in later):
+        return False
+    spots = tuple(pair[0] for pair in later)
+    for places, many in ((awake, len(program)), (spots, len(values))):
+        if any(place.__class__ is not int or not 0 <= place < many for place in places):
+            return False
+        if list(places) != sorted(set(places)):
+            return False
+    return all(value.__class__ is int for _, value in later)
+
+
+def behind(program, state, run):
+    """The state behind a run, None if any value is no run."""
+    if run.__class__ not in (list, tuple):
+        return None
+    for move in run:
+        if move.__class__ is not str or move not in next_states(program, state):
+            return None
+        state = next_states(program, state)[move]
+    return state
+
+
+def holds(program, start, rows):
+    """Whether any value is a start paper of a start, word by word."""
+    if rows.__class__ is not list or any(row.__class__ is not tuple or len(row) != 3 for row in rows):
+        return False
+    if any(not has_form(program, row[0]) or row[1].__class__ is not int or row[2].__class__ is not list
+           for row in rows):
+        return False
+    states = [row[0] for row in rows]
+    if len(set(states)) < len(states) or start_state(program, *start) not in states:
+        return False
+    return all(row_holds(program, dict(zip(states, [row[1] for row in rows])), row) for row in rows)
+
+
+def row_holds(program, numbers, row):
+    state, number, joins = row
+    ahead = list(next_states(program, state).items())
+    if any(other not in numbers or numbers[other] >= number for _, other in ahead):
+        return False
+    pairs = [(one, other) for at, one in enumerate(ahead) for other in ahead[at + 1:]]
+    if len(pairs) != len(joins):
+        return False
+    for join, (one, other) in zip(joins, pairs):
+        if join.__class__ is not tuple or len(join) != 4 or join[0] != one[0] or join[1] != other[0]:
+            return False
+        left, right = behind(program, one[1], join[2]), behind(program, other[1], join[3])
+        if left is None or left != right:
+            return False
+    return True
 
 
 def some_programs(many, seed, *, processes=3):

@@ -56,6 +56,21 @@ INTERFACE = {
             "faults": "(self)", "__eq__": None,
         },
     },
+    "delays": {
+        "Delays": {
+            "__init__": "(self, program, *, most=2000)", "fewest": "property", "listed": "(self)",
+            "__iter__": "(self)", "__len__": "(self)", "__contains__": None, "floor": "(self)",
+            "joined": "(self, places)",
+        },
+    },
+    "live": {
+        "Simulator": {
+            "__init__": "(self, program, values, *, order=None)", "moment": "property", "order": "property",
+            "now": "(self)", "put": "(self, name, value)", "run": "(self)", "plan": "(self, moment, name, value)",
+            "go": "(self, moment)", "planned": "(self)", "trace": "(self)", "undo": "(self)", "twin": "(self)",
+            "__len__": "(self)", "__getitem__": None, "trial": "(self)", "trying": "(self, visitor, *, kept=False)",
+        },
+    },
 }
 # For each file its functions with their parameters.
 FUNCTIONS = {
@@ -93,8 +108,21 @@ FUNCTIONS = {
         "write_program": "(program)", "write_start": "(program, start)", "write_run": "(run)",
         "read_program": "(text)", "read_start": "(program, text)", "read_run": "(text)",
     },
+    "papers": {
+        "start_paper": "(program, start, *, most=2000)", "is_start_paper": "(program, start, rows)",
+        "paper_of": "(program, *, most=2000)", "accepts": "(paper)",
+    },
+    "delays": {
+        "helps": "(program, places, *, most=2000)", "least_delays": "(program, *, most=2000)",
+    },
+    "alike": {
+        "common_starts": "(one, other)", "alike": "(one, other, *, most=2000)",
+        "difference": "(one, other, *, most=2000)", "merged": "(one, other, *, most=2000)",
+        "idle": "(program, name, *, most=2000)",
+    },
+    "live": {"traces": "(program, values, puts, orders)"},
 }
-GENERATORS = {("patterns", "patterns"), ("verdicts", "starts")}
+GENERATORS = {("patterns", "patterns"), ("verdicts", "starts"), ("alike", "common_starts")}
 STATIC = {("Term", "choice"), ("Deed", "of")}
 
 

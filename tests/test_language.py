@@ -48,6 +48,22 @@ def is_property(node):
     return any(isinstance(held, ast.Name) and held.id == "property" for held in node.decorator_list)
 
 
+def is_setter(node):
+    return any(isinstance(held, ast.Attribute) and held.attr == "setter" for held in node.decorator_list)
+
+
+def only_asks_for_none(node):
+    """Whether a test asks of nothing but names and attributes whether they are None."""
+    if isinstance(node, ast.BoolOp):
+        return all(only_asks_for_none(part) for part in node.values)
+    if isinstance(node, ast.UnaryOp):
+        return isinstance(node.op, ast.Not) and only_asks_for_none(node.operand)
+    if not isinstance(node, ast.Compare) or not isinstance(node.left, (ast.Name, ast.Attribute)):
+        return False
+    side = node.comparators[0]
+    return isinstance(node.ops[0], (ast.Is, ast.IsNot)) and isinstance(side, ast.Constant) and side.value is None
+
+
 def top_names(tree):
     """What a file defines at its top, imports left out."""
     named = [node.name for node in tree.body if isinstance(node, (ast.ClassDef, ast.FunctionDef))]
@@ -164,6 +180,11 @@ class NodesTest(unittest.TestCase):
             if node.name == "__exit__":
                 for part in ast.walk(ast.Module(node.body, [])):
                     self.assertNotIsInstance(part, (ast.Call, ast.Subscript, ast.For, ast.While, ast.Raise), where)
+                    if isinstance(part, ast.If):
+                        self.assertTrue(only_asks_for_none(part.test), where)
+                    if isinstance(part, ast.Assign):
+                        self.assertEqual([isinstance(held, ast.Attribute) for held in [*part.targets, part.value]],
+                                         [True, True], where)
 
 
 class NamesTest(unittest.TestCase):
@@ -180,7 +201,7 @@ class NamesTest(unittest.TestCase):
     def test_no_name_is_a_property_and_something_else(self):
         properties = [node.name for _, node in nodes(ast.FunctionDef) if is_property(node)]
         methods = {node.name for _, held in nodes(ast.ClassDef) for node in held.body
-                   if isinstance(node, ast.FunctionDef) and not is_property(node)}
+                   if isinstance(node, ast.FunctionDef) and not is_property(node) and not is_setter(node)}
         attributes = {node.attr for _, node in nodes(ast.Attribute) if isinstance(node.ctx, ast.Store)}
         for name in properties:
             self.assertNotIn(name, methods | attributes)
@@ -196,11 +217,13 @@ class NamesTest(unittest.TestCase):
         functions = [node for _, node in nodes(ast.FunctionDef)]
         generators = {node.name for node in functions
                       if any(isinstance(part, (ast.Yield, ast.YieldFrom)) for part in ast.walk(node))}
-        self.assertEqual(generators, {"patterns", "starts"})
+        self.assertEqual(generators, {"patterns", "starts", "start_graphs", "common_starts"})
         for name in generators:
             self.assertEqual([node.name for node in functions].count(name), 1)
         for name, tree in trees().items():
             loops = [node.iter for node in ast.walk(tree) if isinstance(node, (ast.For, ast.comprehension))]
+            loops += [node.args[0] for node in ast.walk(tree) if isinstance(node, ast.Call)
+                      and isinstance(node.func, ast.Name) and node.func.id in ("list", "tuple") and node.args]
             for node in ast.walk(tree):
                 if isinstance(node, ast.Name) and node.id in generators:
                     held = [loop for loop in loops if isinstance(loop, ast.Call) and loop.func is node]

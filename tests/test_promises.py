@@ -1,11 +1,17 @@
 """What [0.2] of the document says of all programs, looked at for many of them."""
 
+import random
 import unittest
 
 import model
 from checks import Checks
+from tiedsteps.alike import alike, common_starts, difference
 from tiedsteps.benches import is_run, played
 from tiedsteps.commuting import all_commute
+from tiedsteps.delays import Delays, helps, least_delays
+from tiedsteps.live import Simulator
+from tiedsteps.papers import accepts, paper_of
+from tiedsteps.programs import Program
 from tiedsteps.patterns import exchanged, pattern_of, values_of
 from tiedsteps.rules import is_end, start_state, step
 from tiedsteps.searches import all_states, ends, longest, ring, to_end
@@ -122,6 +128,95 @@ class SoleTest(Checks):
             if is_sole(program):
                 for start in some_starts(program):
                     self.assertEqual([end_of(program, *start)], ends(program, start_state(program, *start)))
+
+
+class PapersTest(Checks):
+    """(e) Each paper that is accepted is right, whoever wrote it."""
+
+    def test_what_papers_show_is_so(self):
+        papers = [paper_of(program) for program in PROGRAMS[:40]]
+        for program, paper in zip(PROGRAMS, papers):
+            self.assertIs(accepts(paper), True)
+            self.assertIs(is_sole(program), paper[0] == "sole")
+            # A sole program has no paper of a fault, and one with a fault none that says it is sole.
+            for kind, _, *rest in papers:
+                if accepts((kind, paper[1], *rest)):
+                    self.assertTrue(kind in (faults(program) or ["sole"]))
+
+
+class DelaysTest(Checks):
+    """(f) The least delays make a program sole, and no smaller number of delays does."""
+
+    def test_least_ones(self):
+        found = set()
+        for program in PROGRAMS[:40]:
+            delays = Delays(program)
+            found.add(delays.fewest)
+            for places in delays:
+                self.assertEqual(len(places), delays.fewest)
+                self.assertIs(is_sole(delays.joined(places)), True)
+                self.assertIs(helps(program, places), True)
+            for places, fault, start, run, second in delays.floor():
+                self.assertTrue(delays.fewest is None or len(places) < delays.fewest)
+                SoleTest.check_witness(self, program.delayed(places), fault, start, run, second)
+            self.assertEqual(least_delays(program) == [()], is_sole(program))
+        self.assertTrue({0, 1, None} <= found)
+
+
+class AlikeTest(Checks):
+    """(g) Alike just if from each start both have the same ends, and both or neither have a ring."""
+
+    def others(self, program):
+        """Programs that can be compared with one, some of them alike to it."""
+        names, inputs = program.names(), program.inputs()
+        told = [program, Program([program[name] for name in names[::-1]], inputs[::-1])]
+        told += [program.delayed([place]) for place in program.places()]
+        return told + [rest for rest in [program.without(name) for name in names[1:]]
+                       if rest.variables() == program.variables()]
+
+    def same_at_each_start(self, one, other):
+        for start in common_starts(one, other):
+            state, second = start_state(one, *start), start_state(other, *start)
+            if ends(one, state) != ends(other, second) or (ring(one, state) is None) != (ring(other, second) is None):
+                return False
+        return True
+
+    def test_with_itself_in_either_order_and_over_a_third_one(self):
+        found = 0
+        for program in [program for program in PROGRAMS if len(program.variables()) <= 3][:10]:
+            told = self.others(program)
+            alikes = {(i, k) for i, one in enumerate(told) for k, other in enumerate(told) if alike(one, other)}
+            for i, one in enumerate(told):
+                self.assertIn((i, i), alikes)
+                for k, other in enumerate(told):
+                    self.assertIs((i, k) in alikes, self.same_at_each_start(one, other))
+                    self.assertEqual((i, k) in alikes, (k, i) in alikes)
+                    self.assertTrue(i > k or ((i, k) in alikes) == (difference(one, other) is None))
+                    found += i != k and (i, k) in alikes
+            for i, k in alikes:
+                self.assertTrue(all((i, n) in alikes for m, n in alikes if m == k))
+        self.assertGreater(found, 5)
+
+
+class LiveTest(Checks):
+    """(h) A live run of a sole program comes to the same values at all moments, whatever the order."""
+
+    def test_whatever_the_order(self):
+        chance = random.Random(53)
+        found = 0
+        for program in [program for program in model.some_programs(150, 54) if is_sole(program) and len(program) > 1]:
+            found += 1
+            simulators = [Simulator(program, [3] * len(program.variables())) for _ in range(2)]
+            for _ in range(12):
+                name, value = chance.choice(program.inputs()), chance.randrange(-1, 4)
+                for simulator in simulators:
+                    simulator.order = chance.sample(program.names(), len(program))
+                    simulator.put(name, value)
+                    simulator.plan(simulator.moment + 1, name, value + 1)
+                    simulator.go(simulator.moment + 1)
+                self.assertEqual(simulators[0].now(), simulators[1].now())
+            self.assertEqual(simulators[0].trace(), simulators[1].trace())
+        self.assertGreater(found, 20)
 
 
 if __name__ == "__main__":

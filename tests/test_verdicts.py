@@ -2,9 +2,11 @@
 
 import inspect
 import unittest
+import unittest.mock
 
 import model
 from checks import NO_BOUNDS, Checks, EqualToAll, program_of
+from tiedsteps import verdicts
 from tiedsteps.benches import is_run, played
 from tiedsteps.errors import NoFault, NoNumber, NoStart, TooMany
 from tiedsteps.processes import Process
@@ -89,6 +91,12 @@ class FaultsTest(Checks):
             found.append(tuple(sorted(told)))
             self.check_verdict(program, told)
         self.assertEqual(set(found), {(), ("parts",), ("rings",), ("parts", "rings")})
+
+    def test_where_little_is_kept_for_other_starts(self):
+        for program in model.some_programs(20, 34):
+            told = [fault_of(program, fault) for fault in faults(program)], vars(Verdict(program))
+            with unittest.mock.patch.object(verdicts, "MOST_KEPT", 1):
+                self.assertEqual(([fault_of(program, fault) for fault in faults(program)], vars(Verdict(program))), told)
 
     def check_verdict(self, program, told):
         verdict = Verdict(program)

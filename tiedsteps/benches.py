@@ -3,7 +3,6 @@
 from tiedsteps.errors import NoMove, NoName, NoNumber, NoOrder, NothingBack, TooMany
 from tiedsteps.plain import is_number, is_row
 from tiedsteps.players import Player
-from tiedsteps.processes import TURN
 from tiedsteps.rules import is_end, is_move, is_order, moves, start_state, step, values_in
 
 
@@ -26,18 +25,19 @@ class Trial:
 
     def __init__(self, bench):
         self._bench = bench
-        self._kept = False
+        # None until keep() is called: a with block's end asks of an attribute only whether it is None.
+        self._kept = None
         self._made = []
         self._states = []
 
     def __enter__(self):
-        self._kept = False
+        self._kept = None
         self._made = list(self._bench._made)
         self._states = list(self._bench._states)
         return self._bench
 
     def __exit__(self, kind, value, trace):
-        if kind is not None or not self._kept:
+        if kind is not None or self._kept is None:
             self._bench._made = self._made
             self._bench._states = self._states
 
@@ -162,26 +162,14 @@ def tried(bench, run):
     return states
 
 
-def _move_by(program, state, order):
-    """The move that an order makes in a state that is no end."""
-    return [name for name in [*order, TURN] if is_move(program, state, name)][0]
-
-
 def by_order(program, state, order, *, most=200):
     """The run that an order makes from a state up to an end."""
     if not is_order(program, order):
         raise NoOrder(order)
     if not is_number(most) or most < 0:
         raise NoNumber(most)
-    player = Player(program)
-    run = []
-    met = {}
-    while not is_end(program, state):
-        # An order that comes to a state twice goes on for ever, so beyond any number of moves.
-        if len(run) == most or state in met:
-            raise TooMany(most)
-        met[state] = True
-        move = _move_by(program, state, order)
-        state = player.after(state, move)
-        run.append(move)
+    run, behind = Player(program).run_by(state, order)
+    # An order that comes to a state twice goes on for ever, so beyond any number of moves.
+    if len(run) > most or not is_end(program, behind):
+        raise TooMany(most)
     return run

@@ -1,8 +1,4 @@
-"""The graph of all states that runs from a state come to.
-
-Its states have numbers in the order in which they are met: 0 is the one from
-which the runs go.
-"""
+"""The graph of all states that runs from a state come to."""
 
 from tiedsteps.errors import NoNumber, TooMany
 from tiedsteps.plain import is_number
@@ -14,73 +10,137 @@ def check_most(most):
         raise NoNumber(most)
 
 
-class Graph:
-    """All states that runs from a state come to, and the moves between them; it never changes."""
+class Web:
+    """States by numbers, and the moves between them.
 
-    def __init__(self, player, state, most):
-        self._states = [state]
-        # For each state the pair (number of the state ahead, move) by which it was met.
-        self._met_by = [(0, "")]
-        # For each state the pairs (move, number of the state behind it).
-        self._ahead = []
-        self._meet_all(player, most)
-        self._settled = self._settled_numbers()
+    Runs from unlike starts come to many like states, so what is found behind
+    a state is kept for all graphs that share a web.
+    """
 
-    def _meet_all(self, player, most):
-        """Meets all states by breadth; raises TooMany if there are more than it may meet."""
-        numbers = {self._states[0]: 0}
-        while len(self._ahead) < len(self._states):
-            at = len(self._ahead)
-            state = self._states[at]
-            row = []
-            for move, behind in player.ahead(state):
-                if behind not in numbers:
-                    numbers[behind] = len(self._states)
-                    self._states.append(behind)
-                    self._met_by.append((at, move))
-                row.append((move, numbers[behind]))
-            if len(self._states) > most:
+    def __init__(self, player):
+        self._player = player
+        self._states = []
+        self._numbers = {}
+        # For each number whose moves were made the pairs (move, number of the state behind it).
+        self._ahead = {}
+        # For each settled number the most moves of a run, None if one never ends.
+        self._lengths = {}
+
+    def size(self):
+        """How many states have a number."""
+        return len(self._states)
+
+    def number_of(self, state):
+        """The number of a state."""
+        number = self._numbers.setdefault(state, len(self._states))
+        if number == len(self._states):
+            self._states.append(state)
+        return number
+
+    def state_of(self, number):
+        """The state of a number."""
+        return self._states[number]
+
+    def ahead(self, number):
+        """The list of the pairs (move, number of the state behind it), in order."""
+        row = self._ahead.get(number)
+        if row is None:
+            row = [(move, self.number_of(state)) for move, state in self._player.ahead(self._states[number])]
+            self._ahead[number] = row
+        return row
+
+    def meet(self, root, most):
+        """The dict from the numbers of all states that runs from one come to, as they are met by breadth.
+
+        To each belongs the pair (number of the state ahead, move) by which it
+        was met, None to the first. Raises TooMany if they are more than most.
+        """
+        met_by = {root: None}
+        met = [root]
+        at = 0
+        while at < len(met):
+            number = met[at]
+            for move, behind in self.ahead(number):
+                if behind not in met_by:
+                    met_by[behind] = (number, move)
+                    met.append(behind)
+            if len(met) > most:
                 raise TooMany(most)
-            self._ahead.append(row)
+            at += 1
+        return met_by
 
-    def _settled_numbers(self):
-        """The states from which every run ends, each one behind all to which its moves lead."""
-        left = [len(row) for row in self._ahead]
-        leading = [[] for _ in self._ahead]
-        for at, row in enumerate(self._ahead):
-            for _, number in row:
-                leading[number].append(at)
-        settled = self._end_numbers()
+    def length_of(self, number):
+        """The most moves of a run from a settled state, None if one never ends."""
+        return self._lengths[number]
+
+    def settle(self, numbers):
+        """Finds the most moves of runs from some states, among which are all to which their moves lead."""
+        fresh = [number for number in numbers if number not in self._lengths]
+        left = {number: 0 for number in fresh}
+        leading = {number: [] for number in fresh}
+        for number in fresh:
+            for _, behind in self._ahead[number]:
+                # One behind which a run never ends is left for ever.
+                if self._lengths.get(behind) is None:
+                    left[number] = left[number] + 1
+                if behind in leading:
+                    leading[behind].append(number)
+        self._settle_in_turn(left, leading)
+        for number in fresh:
+            if left[number] > 0:
+                self._lengths[number] = None
+
+    def _settle_in_turn(self, left, leading):
+        """Settles each state behind all to which its moves lead, as far as this goes."""
+        settled = [number for number in left if left[number] == 0]
         at = 0
         while at < len(settled):
-            behind = settled[at]
-            for number in leading[behind]:
-                left[number] = left[number] - 1
-                if left[number] == 0:
-                    settled.append(number)
+            number = settled[at]
+            self._lengths[number] = max([1 + self._lengths[behind] for _, behind in self._ahead[number]], default=0)
+            for other in leading[number]:
+                left[other] = left[other] - 1
+                if left[other] == 0:
+                    settled.append(other)
             at += 1
-        return settled
+
+
+class Graph:
+    """All states of a web that runs from a state come to; raises TooMany if they are more than it may meet."""
+
+    def __init__(self, web, state, most):
+        self._web = web
+        self._met_by = web.meet(web.number_of(state), most)
+        self._met = list(self._met_by)
+        web.settle(self._met)
 
     def _end_numbers(self):
         """The ends, as they are met."""
-        return [number for number, row in enumerate(self._ahead) if not row]
+        return [number for number in self._met if not self._web.ahead(number)]
 
     def _run_to(self, number):
         """A run with the fewest moves to a state."""
         run = []
-        while number != 0:
+        while self._met_by[number] is not None:
             number, move = self._met_by[number]
             run.append(move)
         return run[::-1]
 
+    def web(self):
+        """The web in which its states have numbers."""
+        return self._web
+
+    def numbers(self):
+        """The numbers of all states in the web, as they are met."""
+        return list(self._met)
+
     def states(self):
         """All states, as they are met."""
-        return list(self._states)
+        return [self._web.state_of(number) for number in self._met]
 
     def end_values(self):
         """The values of all ends, ascending."""
         # Of an end nothing but its values is left, so those of unlike ends are unlike.
-        return sorted([self._states[number][0] for number in self._end_numbers()])
+        return sorted([self._web.state_of(number)[0] for number in self._end_numbers()])
 
     def run_to_end(self):
         """A run with the fewest moves to an end, None if there is none."""
@@ -89,38 +149,32 @@ class Graph:
 
     def run_to(self, goal):
         """A run with the fewest moves to a state, None if there is no such one."""
-        for number, state in enumerate(self._states):
-            if state == goal:
+        for number in self._met:
+            if self._web.state_of(number) == goal:
                 return self._run_to(number)
         return None
 
+    def most_moves(self):
+        """How many moves the longest run has, None if there is a ring."""
+        return self._web.length_of(self._met[0])
+
     def has_ring(self):
         """Whether some run never ends."""
-        return len(self._settled) < len(self._states)
+        return self.most_moves() is None
 
     def ring(self):
         """A ring, None if there is none."""
         if not self.has_ring():
             return None
-        settled = {number: True for number in self._settled}
-        # Behind each state that is not settled there is one more, so this comes to one twice.
+        # Behind each state with a ring there is one more, so this comes to one twice.
         run = []
         made_ahead = {}
-        at = 0
+        at = self._met[0]
         while at not in made_ahead:
             made_ahead[at] = len(run)
-            move, at = [pair for pair in self._ahead[at] if pair[1] not in settled][0]
+            move, at = [pair for pair in self._web.ahead(at) if self._web.length_of(pair[1]) is None][0]
             run.append(move)
         return run[:made_ahead[at]], run[made_ahead[at]:]
-
-    def most_moves(self):
-        """How many moves the longest run has, None if there is a ring."""
-        if self.has_ring():
-            return None
-        lengths = [0] * len(self._states)
-        for number in self._settled:
-            lengths[number] = max([1 + lengths[behind] for _, behind in self._ahead[number]], default=0)
-        return lengths[0]
 
     def parting(self):
         """Two runs to ends with unlike values, None if there are none."""

@@ -23,7 +23,7 @@ def pattern_of(program, values):
     return tuple([numbers[value] for value in values])
 
 
-def _is_pattern(program, value):
+def is_pattern(program, value):
     """Whether any value is the pattern of some values."""
     if not isinstance(value, tuple) or not are_values(program, value):
         return False
@@ -42,22 +42,30 @@ def _values_by_number(constants, many):
     return values
 
 
-def values_of(program, pattern):
-    """The values of a pattern."""
-    if not _is_pattern(program, pattern):
-        raise NoPattern(pattern)
-    constants = program.constants()
+def values_beside(constants, pattern):
+    """The values of what is known to be a pattern beside these constants."""
     values = _values_by_number(constants, _next_number(pattern, len(constants)))
     return tuple([values[number] for number in pattern])
 
 
+def values_of(program, pattern):
+    """The values of a pattern."""
+    if not is_pattern(program, pattern):
+        raise NoPattern(pattern)
+    return values_beside(program.constants(), pattern)
+
+
+def all_patterns(many, constants):
+    """The list of all patterns of so many variables beside so many constants, ascending."""
+    rows = [()]
+    for _ in range(many):
+        rows = [(*row, number) for row in rows for number in range(_next_number(row, constants) + 1)]
+    return rows
+
+
 def patterns(program):
     """A generator of all patterns, ascending."""
-    constants = len(program.constants())
-    rows = [()]
-    for _ in program.variables():
-        rows = [(*row, number) for row in rows for number in range(_next_number(row, constants) + 1)]
-    for row in rows:
+    for row in all_patterns(len(program.variables()), len(program.constants())):
         yield row
 
 

@@ -1,6 +1,6 @@
 """Searches among all states that runs from a state come to."""
 
-from tiedsteps.graphs import Graph, check_most
+from tiedsteps.graphs import Graph, Web, check_most
 from tiedsteps.players import Player
 from tiedsteps.rules import is_state
 
@@ -8,7 +8,7 @@ from tiedsteps.rules import is_state
 def _graph(program, state, most):
     """The graph of all states that runs from a state come to, so that TooMany is told ahead of all else."""
     check_most(most)
-    return Graph(Player(program), state, most)
+    return Graph(Web(Player(program)), state, most)
 
 
 def all_states(program, state, *, most=2000):
