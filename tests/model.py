@@ -222,3 +222,41 @@ def one_program(chance, processes):
         return Process(name, waits, deeds)
 
     return Program([process(name) for name in ["q", "p", "s", "r", "t"][:chance.randint(1, processes)]], inputs)
+
+
+def wide_programs(many, seed, *, at_once=8):
+    """So many programs with five processes, five variables and two constants, the same at each call."""
+    chance = random.Random(seed)
+    told = []
+    while len(told) < many:
+        try:
+            program = one_wide_program(chance, at_once)
+        except NoProgram:
+            continue
+        if len(program.variables()) == 5 and len(program.constants()) == 2:
+            told.append(program)
+    return told
+
+
+def one_wide_program(chance, at_once):
+    inputs = ["a", "b", "c"][:chance.choice([1, 2, 3])]
+    others = ["v", "w", "x", "y"][:5 - len(inputs)]
+    all_leaves = inputs + others + chance.sample(range(10), 2)
+    left = [True] * at_once
+
+    def term():
+        if chance.random() < 0.5:
+            return str(chance.choice(all_leaves))
+        one, other, same, unlike = [chance.choice(all_leaves) for _ in range(4)]
+        return f"({one}={other}?{same}:{unlike})"
+
+    def process(name):
+        rows = []
+        for _ in range(chance.choice([1, 1, 2])):
+            sign = ":=" if left and chance.random() < 0.6 else "<="
+            if sign == ":=":
+                left.pop()
+            rows.append(f"{chance.choice(others)} {sign} {term()}")
+        return Process(name, chance.sample(inputs + others, chance.choice([1, 1, 2])), rows)
+
+    return Program([process(name) for name in ["q", "p", "s", "r", "t"]], inputs)

@@ -71,6 +71,15 @@ INTERFACE = {
             "__len__": "(self)", "__getitem__": None, "trial": "(self)", "trying": "(self, visitor, *, kept=False)",
         },
     },
+    "cases": {
+        "Cases": {
+            "__init__": "(self, program, *, most=2000)", "listed": "(self)", "__iter__": "(self)",
+            "__len__": "(self)", "__call__": "(self, values, changed)", "sources": "(self, pattern, changed)",
+            "__contains__": None, "copies": "(self, variable)", "kept": "(self, variable)", "still": "(self)",
+            "__eq__": None,
+        },
+    },
+    "console": {"Console": {"__init__": "(self)", "run": "(self, line)"}},
 }
 # For each file its functions with their parameters.
 FUNCTIONS = {
@@ -121,6 +130,16 @@ FUNCTIONS = {
         "idle": "(program, name, *, most=2000)",
     },
     "live": {"traces": "(program, values, puts, orders)"},
+    "slices": {
+        "bears": "(program, name, variables)", "sliced": "(program, variables)", "bearing": "(program, variables)",
+        "cut": "(program, other, values)", "groups": "(program)",
+    },
+    "ties": {
+        "orders": "(program)", "outcome": "(program, values, changed, order)", "outcomes": "(program, order)",
+        "like_orders": "(program)", "ending": "(program)", "rules": "(program)", "orders_by": "(program, some)",
+        "settles": "(program, some)", "least_rules": "(program)", "quickest": "(program)",
+        "moves_by": "(program, order)",
+    },
 }
 GENERATORS = {("patterns", "patterns"), ("verdicts", "starts"), ("alike", "common_starts")}
 STATIC = {("Term", "choice"), ("Deed", "of")}

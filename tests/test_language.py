@@ -203,8 +203,9 @@ class NamesTest(unittest.TestCase):
         methods = {node.name for _, held in nodes(ast.ClassDef) for node in held.body
                    if isinstance(node, ast.FunctionDef) and not is_property(node) and not is_setter(node)}
         attributes = {node.attr for _, node in nodes(ast.Attribute) if isinstance(node.ctx, ast.Store)}
+        assigned = {node.name for _, node in nodes(ast.FunctionDef) if is_setter(node)}
         for name in properties:
-            self.assertNotIn(name, methods | attributes)
+            self.assertNotIn(name, methods | attributes - assigned)
 
     def test_no_name_is_a_method_and_an_attribute_of_one_class(self):
         for where, held in nodes(ast.ClassDef):

@@ -2,15 +2,8 @@
 
 from tiedsteps.errors import NoPlace
 from tiedsteps.graphs import check_most
-from tiedsteps.plain import is_number
+from tiedsteps.plain import is_number, sets_of
 from tiedsteps.verdicts import first_fault, is_sole, looked
-
-
-def _sets_of(places, many):
-    """All tuples of so many of some places, in their order, as the places stand."""
-    if many == 0:
-        return [()]
-    return [(place, *row) for at, place in enumerate(places) for row in _sets_of(places[at + 1:], many - 1)]
 
 
 def _looked_at(program, places, most):
@@ -26,7 +19,7 @@ def _searched(program, most):
     places = program.places()
     floor = []
     for many in range(len(places) + 1):
-        sets = _sets_of(places, many)
+        sets = sets_of(places, many)
         rows = [_looked_at(program, row, most) for row in sets]
         least = [row for row, told in zip(sets, rows) if told is None]
         if least:

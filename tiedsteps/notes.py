@@ -9,7 +9,7 @@ from tiedsteps.rules import is_start
 DIGITS = "0123456789"
 
 
-def _text_of(rows):
+def text_of(rows):
     """The text of rows, each closed by a line feed."""
     return "".join([row + "\n" for row in rows])
 
@@ -27,7 +27,7 @@ def write_program(program):
     rows = [" ".join(["inputs", *program.inputs()])]
     for name in program.names():
         rows.extend(_process_rows(program[name]))
-    return _text_of(rows)
+    return text_of(rows)
 
 
 def write_start(program, start):
@@ -35,14 +35,14 @@ def write_start(program, start):
     if not isinstance(program, Program) or not is_start(program, start):
         raise NoNote(None)
     values, changed = start
-    return _text_of([" ".join(["start", *[str(value) for value in values], "changed", *changed])])
+    return text_of([" ".join(["start", *[str(value) for value in values], "changed", *changed])])
 
 
 def write_run(run):
     """The note of a run."""
     if not is_row(run) or not all([is_word(move) for move in run]):
         raise NoNote(None)
-    return _text_of(run)
+    return text_of(run)
 
 
 def _rows_of(text):
@@ -81,6 +81,15 @@ def _deed_in(row):
         return None
 
 
+def row_kind(row):
+    """What a row of the note of a program is: "inputs", "process" or "deed"; None if it is none."""
+    if _deed_in(row) is not None:
+        return "deed"
+    if _head_in(row) is not None:
+        return "process"
+    return None if _inputs_in(row) is None else "inputs"
+
+
 def _parts_in(rows):
     """The list of the parts (name, waits, deeds) of the processes in the rows behind that of the inputs."""
     parts = []
@@ -110,7 +119,7 @@ def read_program(text):
         raise NoNote(0) from None
 
 
-def _is_numeral(word):
+def is_numeral(word):
     """Whether a word is a number in decimal, without leading zeros, below 0 with a minus ahead."""
     digits = word[1:] if word.startswith("-") else word
     if digits == "" or not all([sign in DIGITS for sign in digits]):
@@ -122,7 +131,7 @@ def _start_in(row):
     """The start in a row, of any program; None if it is none."""
     words = row.split(" ")
     end = 1
-    while end < len(words) and _is_numeral(words[end]):
+    while end < len(words) and is_numeral(words[end]):
         end += 1
     changed = _words_behind("changed", words[end:]) if end < len(words) else None
     if words[0] != "start" or end == 1 or changed is None:

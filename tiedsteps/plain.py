@@ -51,3 +51,10 @@ def are_unlike_words(value, most):
 def ascending(values):
     """The words or numbers of a list, each once, ascending."""
     return sorted(set(values))
+
+
+def sets_of(row, many):
+    """All tuples of so many items of a row, in their order, as the items stand in it."""
+    if many == 0:
+        return [()]
+    return [(item, *rest) for at, item in enumerate(row) for rest in sets_of(row[at + 1:], many - 1)]
