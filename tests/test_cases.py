@@ -248,6 +248,10 @@ class EqualTest(Checks):
             self.assertIs(one != Cases(other), True)
         for other in (LINE, one.listed(), None, EqualToAll(), 5):
             self.assertIs(one == other, False)
+        # The cases tell nothing of what b and d are called.
+        one, other = Cases(program_of("p a: b := a")), Cases(program_of("p a: d := a"))
+        self.assertEqual(one.listed(), other.listed())
+        self.assertIs(one == other, False)
 
     def test_other_inputs_and_other_constants(self):
         # b is no input of the first one, though nobody writes it.

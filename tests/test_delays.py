@@ -181,6 +181,10 @@ class DelaysTest(Checks):
                       (("p", 0), ("q", 0), ("q", 0)), (("p", False), ("q", 0)), (("p", 0), ("q", False)), ("p", 0, "q", 0),
                       (["p", 0], ["q", 0]), (("p", 0), EqualToAll()), (("p", 0), ("q", EqualToAll()))]:
             self.assertIs(wrong in delays, False, wrong)
+        for wrong in NO_PLACE:
+            for row in ((wrong,), (wrong, ("q", 0)), (("p", 0), wrong)):
+                self.assertIs(row in delays, False, row)
+                self.refuses_it(NoPlace, row, delays.joined, row)
         self.assertIs(() in Delays(LINE), True)
         self.assertIs([] in Delays(LINE), False)
         self.assertIs(() in Delays(BLINK), False)

@@ -161,7 +161,8 @@ class IsStartPaperTest(Checks):
                      self.joins(("p", "q", ["q"])), self.joins(("p", "q", ["q"], ["p"], [])), self.joins(None),
                      self.joins(("p", "q", ["p"], ["q"])), self.joins(("p", "q", ["q", "turn"], ["p", "turn"])),
                      self.joins(("p", "q", None, None)), self.joins(("p", "q", "q", "p")), self.joins(EqualToAll()),
-                     self.joins((EqualToAll(), EqualToAll(), ["q"], ["p"])), self.joins(("p", "q", [EqualToAll()], ["p"])),
+                     self.joins((EqualToAll(), EqualToAll(), ["q"], ["p"])),
+                     self.joins((EqualToAll(), "q", ["q"], ["p"])), self.joins(("p", EqualToAll(), ["q"], ["p"])), self.joins(("p", "q", [EqualToAll()], ["p"])),
                      self.joins(("p", "q", ["q"], EqualToAll())))
         self.refused(self.fork(0, (FORKED[0][0], 2, (join,))), self.fork(0, (FORKED[0][0], 2, {0: join})),
                      self.fork(0, (FORKED[0][0], 2, None)), self.fork(1, (FORKED[1][0], 1, ())),
@@ -370,6 +371,7 @@ class AcceptsTest(Checks):
         self.assertIs(accepts(("parts", note, start, ("q", "p"), ("p", "q"))), True)
         self.assertIs(accepts(("parts", note, ((10 ** 59, 0), ("a",)), ["p", "q"], ("q", "p"))), True)
         self.refused(("parts", note, start, ["p", "q"], ["p", "q"]), ("parts", note, start, ["p"], ["q"]),
+                     ("parts", note, start, ["q"], ["q", "p"]), ("parts", note, start, ["p", "q"], ["p"]),
                      ("parts", note, start, ["p", "q"], ["q"]), ("parts", note, start, ["p"], ["q", "p"]),
                      ("parts", note, start, ["p", "q"], ["q", "q"]), ("parts", note, start, ["p", "q"], ["q", "p", "turn"]),
                      ("parts", note, start, ["p", "q", "p"], ["q", "p"]), ("parts", note, start, "pq", "qp"),

@@ -21,7 +21,7 @@ BEHIND = {None: ("inputs",), "inputs": ("process",), "process": ("deed",), "deed
 
 
 def _joined(parts):
-    """The text of some parts, or "none" if there are none."""
+    """The text of the parts of a list, or "none" if there are none, or no list."""
     return " ".join([str(part) for part in parts]) if parts else NONE
 
 
@@ -51,7 +51,7 @@ def _look_delays(program):
 
 
 def _look_circle(program):
-    return _joined(circle(program) or [])
+    return _joined(circle(program))
 
 
 def _look_clashes(program):

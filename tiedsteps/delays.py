@@ -15,7 +15,6 @@ def _looked_at(program, places, most):
 
 def _searched(program, most):
     """The pair (least sets, floor), as Delays tells them."""
-    check_most(most)
     places = program.places()
     floor = []
     for many in range(len(places) + 1):

@@ -45,7 +45,8 @@ class Web:
         """The list of the pairs (move, number of the state behind it), in order."""
         row = self._ahead.get(number)
         if row is None:
-            row = [(move, self.number_of(state)) for move, state in self._player.ahead(self._states[number])]
+            behind = self._player.ahead(self._states[number])
+            row = [(move, self.number_of(state)) for move, state in behind]
             self._ahead[number] = row
         return row
 

@@ -176,7 +176,8 @@ class Bundle:
     def likes(self):
         """The list of the lists of orders that have the same outcomes, by their first ones."""
         # The lowest bit of a set is that of its first order.
-        return [self._orders_in(held) for held in sorted(self._alike, key=lambda held: held & -held)]
+        sets = sorted(self._alike, key=lambda held: held & -held)
+        return [self._orders_in(one) for one in sets]
 
     def endings(self):
         """The list of the orders that end from each start."""
