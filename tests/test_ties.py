@@ -1,10 +1,12 @@
 """Orders, their outcomes, and the rules that settle a program."""
 
 import unittest
+import unittest.mock
 from itertools import combinations, permutations
 
 import model
 from checks import Checks, EqualToAll, program_of
+from tiedsteps import ties
 from tiedsteps.errors import NoOrder, NoStart
 from tiedsteps.rules import start_state
 from tiedsteps.ties import (
@@ -254,6 +256,12 @@ class ManyProgramsTest(Checks):
                 for other in rules(program)[-3:]:
                     self.assertIs(settles(program, [one, other]), settles_by_model(told, [one, other]))
         self.assertEqual(set(kinds), {None, 0, 1, 2})
+
+    def test_where_little_is_kept_for_other_starts(self):
+        for program in [*ALL, *model.some_programs(20, 125)]:
+            told = like_orders(program), least_rules(program), quickest(program)
+            with unittest.mock.patch.object(ties, "MOST_KEPT", 1):
+                self.assertEqual((like_orders(program), least_rules(program), quickest(program)), told)
 
     def check_likes(self, program, results):
         rows = []
