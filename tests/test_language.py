@@ -64,6 +64,33 @@ def only_asks_for_none(node):
     return isinstance(node.ops[0], (ast.Is, ast.IsNot)) and isinstance(side, ast.Constant) and side.value is None
 
 
+def may_stand_by_stars(node, properties):
+    """Whether an argument is a name, an attribute off a name, a literal, or a list, tuple or dict of these."""
+    if isinstance(node, ast.Attribute):
+        return isinstance(node.value, ast.Name) and node.attr not in properties
+    if isinstance(node, (ast.List, ast.Tuple)):
+        return all(may_stand_by_stars(part, properties) for part in node.elts)
+    if isinstance(node, ast.Dict):
+        return all(part is not None and may_stand_by_stars(part, properties) for part in node.keys + node.values)
+    if isinstance(node, ast.UnaryOp):
+        return isinstance(node.op, ast.USub) and isinstance(node.operand, ast.Constant)
+    return isinstance(node, (ast.Name, ast.Constant))
+
+
+def wrong_by_stars(call, properties):
+    """Those arguments of a call that may not stand behind or beside its stars."""
+    rest = [node.value if isinstance(node, ast.Starred) else node for node in call.args]
+    starred = [node.value for node in call.args if isinstance(node, ast.Starred)]
+    doubled = [node.value for node in call.keywords if node.arg is None]
+    wrong = [node for node in (rest if doubled else starred) if not may_stand_by_stars(node, properties)]
+    wrong += [node for node in doubled
+              if not isinstance(node, (ast.Name, ast.Attribute)) or not may_stand_by_stars(node, properties)]
+    # Beside two stars there are no keywords and no two stars again, and no keyword stands ahead of one star.
+    named = [node for node in call.keywords if node.arg is not None]
+    last = max([(node.lineno, node.col_offset) for node in starred], default=(0, 0))
+    return wrong + doubled[1:] + [node for node in named if doubled or (node.lineno, node.col_offset) < last]
+
+
 def top_names(tree):
     """What a file defines at its top, imports left out."""
     named = [node.name for node in tree.body if isinstance(node, (ast.ClassDef, ast.FunctionDef))]
@@ -187,6 +214,30 @@ class NodesTest(unittest.TestCase):
                                          [True, True], where)
 
 
+class StarsTest(unittest.TestCase):
+    def test_what_stands_by_the_stars_of_calls(self):
+        properties = {node.name for _, node in nodes(ast.FunctionDef) if is_property(node)}
+        for where, node in nodes(ast.Call):
+            self.assertEqual([ast.unparse(part) for part in wrong_by_stars(node, properties)], [], where)
+
+    def test_no_star_stands_in_a_set_or_an_index(self):
+        for where, node in nodes((ast.Set, ast.Subscript)):
+            inner = node.slice if isinstance(node, ast.Subscript) else node
+            self.assertFalse(any(isinstance(part, ast.Starred) for part in ast.walk(inner)), where)
+
+    def test_calls_of_which_this_is_told(self):
+        for text in ("f(*xs)", "f(k[0], *xs)", "f(*xs, n)", "f(*box.rows)", "f(*[1, (x, -2)], *(), n=k[0])",
+                     "f(**d)", "f(k, *xs, **box.table)", "f(*[{1: x}])"):
+            call = ast.parse(text, mode="eval").body
+            self.assertEqual(wrong_by_stars(call, {"late"}), [], text)
+        for text in ("f(*xs[2])", "f(*xs[1:])", "f(*g())", "f(*box.late)", "f(*a.b.c)", "f(*[xs[0]])", "f(*(x + y))",
+                     "f(*[x for x in xs])", "f(*xs, *ys[0])", "f(*(a if b else c))", "f(*[*xs])", "f(**d[0])",
+                     "f(**{'a': 1})", "f(k[0], **d)", "f(*xs[0], **d)", "f(n=1, **d)", "f(**d, **e)", "f(n=1, *xs)",
+                     "f(**g())", "f(*{1: x[0]})", "f(*[{**d}])"):
+            call = ast.parse(text, mode="eval").body
+            self.assertNotEqual(wrong_by_stars(call, {"late"}), [], text)
+
+
 class NamesTest(unittest.TestCase):
     def test_no_name_of_a_class_or_an_import_is_used_within(self):
         for name, tree in trees().items():
@@ -229,7 +280,6 @@ class NamesTest(unittest.TestCase):
                 if isinstance(node, ast.Name) and node.id in generators:
                     held = [loop for loop in loops if isinstance(loop, ast.Call) and loop.func is node]
                     self.assertEqual(len(held), 1, f"{name}:{node.lineno}")
-
 
 
 if __name__ == "__main__":

@@ -170,9 +170,10 @@ def accepts(paper):
         return False
     if len(paper) == 3:
         return paper[0] == SOLE and _are_start_papers(program, paper[2])
-    if paper[0] not in (PARTS, RINGS) or not is_start(program, paper[2]):
+    fault, _, start, run, second = paper
+    if fault not in (PARTS, RINGS) or not is_start(program, start):
         return False
-    state = start_state(program, *paper[2])
-    if paper[0] == PARTS:
-        return _are_parting(program, state, paper[3], paper[4])
-    return _is_ring(program, state, paper[3], paper[4])
+    state = start_state(program, *start)
+    if fault == PARTS:
+        return _are_parting(program, state, run, second)
+    return _is_ring(program, state, run, second)
